@@ -56,12 +56,12 @@ class Chart:
 
     def steps_from(self, place):
         """The ascending list of the pairs (place, loss) of the steps that lead from a place."""
-        self._check_place(place)
+        self.check_place(place)
         return list(self._departures[place])
 
     def steps_to(self, place):
         """The ascending list of the pairs (place, loss) of the steps that lead to a place."""
-        self._check_place(place)
+        self.check_place(place)
         return list(self._arrivals[place])
 
     def arrivals(self):
@@ -80,13 +80,14 @@ class Chart:
             raise InvalidText(lines, "form")
         return Chart(rows, winds, top=top)
 
+    def check_place(self, place):
+        """Raises UnknownPlace for any value that is no place of the chart."""
+        if place not in self:
+            raise UnknownPlace(place)
+
     def _check_water(self, cell):
         if not is_cell(cell) or cell not in self._drags:
             raise OnLand(cell)
-
-    def _check_place(self, place):
-        if place not in self:
-            raise UnknownPlace(place)
 
     def __contains__(self, x):
         return is_place(x) and x in self._arrivals

@@ -4,6 +4,8 @@ import random
 import unittest
 
 from highestsky.charts import Chart
+from highestsky.errors import InvalidRegion
+from highestsky.skies import Sky
 
 
 class Case(unittest.TestCase):
@@ -101,3 +103,57 @@ def least_losses(rows, winds):
         found[start, end] = min(loss, found.get((start, end), loss))
         paths.extend((start, after, loss + more) for (ahead, after), more in steps.items() if ahead == end)
     return found
+
+
+def heights_of(chart, squalls):
+    """A dict from all places to their heights by a dict of squalls, hour by hour as [7] says."""
+    steps = steps_of(chart.rows(), chart.winds())
+    found = {}
+    for place in places_of(chart.rows(), chart.winds()):
+        numbers = [squalls.get(place, 0)]
+        for (start, end), loss in steps.items():
+            if end == place and found[start] - loss >= 0:
+                numbers.append(found[start] - loss)
+        found[place] = max(numbers)
+    return found
+
+
+def random_squalls(maker, chart):
+    """A list of pairs for a sky, in any order, some of them for one place."""
+    return [(place, maker.randint(0, chart.top)) for place in maker.choices(chart.places(), k=maker.randint(0, 6))]
+
+
+def random_sky(maker, chart):
+    return Sky(chart, random_squalls(maker, chart))
+
+
+def random_region(maker, chart):
+    return maker.choices(chart.places(), k=maker.randint(1, 4))
+
+
+def wrong_places(chart):
+    """Values that are no place of a chart, some of them quite like one."""
+    hour, row, column = chart.places()[-1]
+    return [*any_values(), (hour + 1, row, column), (hour, row, 5), (hour, 5, column), (hour, False, column),
+            (False, row, column), [hour, row, column], (hour, row), "0.0.0", chart, [(hour, row, column)],
+            ((hour, row, column),)]
+
+
+# Values that are no list of 1 to 40 items, with which a region is refused as a whole.
+NO_REGIONS = [None, True, False, 0, 7, "", "0.0.0", "abc", [], (), [(0, 0, 0)] * 41, ((0, 0, 0),) * 41, [None] * 41,
+              {(0, 0, 0): 1}, Chart([[0]])]
+
+
+class RegionCase(Case):
+    def refuses_regions(self, chart, call):
+        """Checks how a call that takes a region of a chart refuses wrong ones."""
+        for value in NO_REGIONS:
+            self.refused(InvalidRegion(-1), call, value)
+        good = chart.places()[0]
+        for value in wrong_places(chart):
+            self.refused(InvalidRegion(0), call, [value])
+            self.refused(InvalidRegion(0), call, (value, value, good))
+            self.refused(InvalidRegion(2), call, [good, good, value, None])
+            self.refused(InvalidRegion(39), call, (good,) * 39 + (value,))
+        # A place alone is a tuple of three items that are no places.
+        self.refused(InvalidRegion(0), call, good)

@@ -2,6 +2,9 @@
 
 from highestsky.charts import Chart
 from highestsky.errors import InvalidChart, InvalidText
+from highestsky.losses import least_loss
+from highestsky.sayings import at_least, at_most, if_then, squall_most, under
+from highestsky.skies import Sky
 from tests.helpers import Case
 
 
@@ -19,3 +22,31 @@ class Examples(Case):
         self.same([chart.top, chart.last, chart.cells()], [5, 0, [(0, 0)]])
         chart = Chart([[9, 9]], [(0, 0, 0, 0, 0), (0, 0, 0, 0, 0)], top=9)
         self.same([chart.top, chart.last, chart.cells()], [9, 2, [(0, 0), (0, 1)]])
+
+    def test_steps(self):
+        chart = Chart([[0, 1]], [(0, 5, 2, 5, 3)])
+        losses = [least_loss(chart, (0, 0, start), [(1, 0, end)]) for start in range(2) for end in range(2)]
+        self.same(losses, [0, 3, 3, 1])
+
+    def test_the_sky_of_the_first_lot(self):
+        chart = Chart([[0, 1]], [(0, 5, 2, 5, 3)])
+        sky = Sky(chart, [((0, 0, 0), 4), ((0, 0, 1), 7), ((1, 0, 0), 4)])
+        self.same([sky.squalls(), sky.heights()], [
+            [((0, 0, 0), 4), ((0, 0, 1), 7), ((1, 0, 0), 4)],
+            {(0, 0, 0): 4, (0, 0, 1): 7, (1, 0, 0): 4, (1, 0, 1): 6}])
+        sayings = [at_most([(1, 0, 0)], 4), squall_most((1, 0, 1), 0), at_least([(1, 0, 1)], 6), at_least([(1, 0, 1)], 7)]
+        self.same([saying.kept_by(sky) for saying in sayings], [True, True, True, False])
+
+    def test_heights_that_are_skipped(self):
+        cell = [(0, 0, 0)]
+        chart = Chart([[0]], top=5)
+        saying = if_then(cell, 1, cell, 3)
+        found = [height for height in range(6) if saying.kept_by(Sky(chart, [((0, 0, 0), height)]))]
+        self.same(found, [0, 3, 4, 5])
+
+    def test_a_saying_that_no_sky_keeps(self):
+        cell = [(0, 0, 0)]
+        saying = under(cell, cell, -3)
+        self.same(str(saying), "under -3 0.0.0 0.0.0")
+        chart = Chart([[0]], top=5)
+        self.same([saying.kept_by(Sky(chart, [((0, 0, 0), height)])) for height in range(6)], [False] * 6)

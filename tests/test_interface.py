@@ -1,0 +1,71 @@
+"""Whether everything has its name, its place and its parameters as the interface lists them."""
+
+import importlib
+import inspect
+import unittest
+
+FUNCTIONS = {
+    "words": ["is_name(value)", "is_cell(value)", "is_place(value)", "is_number(value, least, most)", "number_in(text)"],
+    "winds": ["is_wind(value)", "moved_cell(cell, direction)"],
+    "charttexts": ["chart_rows_text(rows, winds, top)", "read_parts(text)"],
+    "losses": ["losses_from(chart, place)", "losses_to(chart, region)", "least_loss(chart, place, region)",
+               "least_path(chart, place, region)", "path_loss(chart, path)"],
+    "fronts": ["front_at(sky, hour, heights)", "front_walk(sky)"],
+    "mirrors": ["mirrored(chart, how)", "mirrored_place(chart, place, how)", "mirrored_sky(sky, how)",
+                "delayed(chart, wind)", "delayed_sky(sky, wind)", "times(chart, factor)"],
+    "placetexts": ["place_text(place)", "region_text(region)", "read_place(text)", "read_region(text)"],
+    "sayings": ["at_most(region, limit, *, gauge=None)", "at_least(region, amount, *, gauge=None)",
+                "exactly(region, limit, *, gauge=None)", "under(region, other, more, *, gauge=None)",
+                "level(region, other, more, *, gauge=None)", "if_then(region, amount, other, least, *, gauge=None)",
+                "squall_most(place, limit, *, gauge=None)", "squall_least(place, amount, *, gauge=None)"],
+}
+METHODS = {
+    ("charts", "Chart"): [
+        "__init__(self, rows, winds=(), *, top=9)", "rows(self)", "winds(self)", "cells(self)", "drag(self, cell)",
+        "places(self)", "neighbours(self, cell)", "steps_from(self, place)", "steps_to(self, place)", "text(self)",
+        "read(text)", "__str__(self)", "__contains__(self, x)", "__eq__(self, other)", "__len__(self)", "__repr__(self)"],
+    ("skies", "Sky"): [
+        "__init__(self, chart, squalls=())", "squall(self, place)", "height(self, place)", "region_height(self, region)",
+        "squalls(self)", "heights(self)", "with_squall(self, place, number)", "full(chart)", "is_below(self, other)",
+        "__getitem__(self, at)", "__or__(self, other)", "__eq__(self, other)", "__len__(self)", "__bool__(self)",
+        "__repr__(self)"],
+    ("fronts", "Front"): [
+        "__init__(self, sky)", "hour(self)", "heights(self)", "forward(self)", "twin(self)", "__repr__(self)"],
+    ("sayings", "Saying"): [
+        "numbers(self)", "regions(self)", "parts(self)", "opposites(self)", "is_simple(self)", "is_ceiling(self)",
+        "is_floor(self)", "is_plain(self)", "kept_by(self, sky)", "with_gauge(self, gauge)", "moved(self, chart, how)",
+        "text(self)", "__str__(self)", "__eq__(self, other)", "__repr__(self)"],
+}
+STATIC = ["read(text)", "full(chart)"]
+
+
+def written(found):
+    """The name and the parameters of a function, a method or the getter of a property."""
+    return f"{found.__name__}{inspect.signature(found)}"
+
+
+class Interface(unittest.TestCase):
+    def test_functions(self):
+        for module, wanted in FUNCTIONS.items():
+            home = importlib.import_module(f"highestsky.{module}")
+            for text in wanted:
+                found = getattr(home, text.split("(")[0])
+                self.assertEqual([written(found), found.__module__], [text, home.__name__])
+
+    def test_methods(self):
+        for (module, name), wanted in METHODS.items():
+            home = importlib.import_module(f"highestsky.{module}")
+            kind = getattr(home, name)
+            self.assertEqual(kind.__module__, home.__name__)
+            for text in wanted:
+                found = vars(kind)[text.split("(")[0]]
+                self.assertEqual(isinstance(found, staticmethod), text in STATIC)
+                if isinstance(found, property):
+                    found = found.fget
+                self.assertEqual(written(getattr(found, "__func__", found)), text)
+
+    def test_only_hour_is_a_property(self):
+        for module, name in METHODS:
+            kind = getattr(importlib.import_module(f"highestsky.{module}"), name)
+            found = [word for word, part in vars(kind).items() if isinstance(part, property)]
+            self.assertEqual(found, ["hour"] if name == "Front" else [])
