@@ -1,9 +1,8 @@
 """Changed charts: mirrored, delayed by an hour, and multiplied."""
 
 from highestsky.charts import Chart
-from highestsky.errors import InvalidMirror, InvalidNumber, InvalidWind, TooMany
+from highestsky.errors import InvalidMirror, InvalidNumber, TooMany
 from highestsky.skies import Sky
-from highestsky.winds import is_wind
 from highestsky.words import MOST_TOLL, is_number
 
 MIRRORS = ("rows", "columns", "cross")
@@ -57,8 +56,7 @@ def delayed(chart, wind):
     """The chart with a further wind ahead of all others."""
     if chart.last >= Chart.MOST_HOURS:
         raise TooMany(Chart.MOST_HOURS)
-    if not is_wind(wind):
-        raise InvalidWind(0)
+    # A wrong wind is the first one here, so the chart itself refuses it with the index 0.
     return Chart(chart.rows(), [wind, *chart.winds()], top=chart.top)
 
 
