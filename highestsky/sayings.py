@@ -84,6 +84,10 @@ class Saying:
         """Whether the saying speaks of one region and of fixed numbers."""
         return self.kind in PLAIN
 
+    def is_on(self, chart):
+        """Whether all places of the saying are places of a chart."""
+        return all([place in chart for region in self._regions for place in region])
+
     def check_chart(self, chart):
         """Raises OffChart with the first place that is no place of a chart."""
         for region in self._regions:
@@ -150,7 +154,7 @@ def check_gauge(gauge):
         raise InvalidGauge(gauge)
 
 
-def _said(kind, regions, numbers, gauge):
+def saying_of(kind, regions, numbers, gauge):
     """The saying of this kind, behind all checks but that of a single place."""
     for region in regions:
         check_places(region)
@@ -165,37 +169,37 @@ def _said(kind, regions, numbers, gauge):
 def _said_of_place(kind, place, number, gauge):
     if not is_place(place):
         raise InvalidPlace(place)
-    return _said(kind, [[place]], [number], gauge)
+    return saying_of(kind, [[place]], [number], gauge)
 
 
 def at_most(region, limit, *, gauge=None):
     """The saying that a region has at most this height."""
-    return _said("atmost", [region], [limit], gauge)
+    return saying_of("atmost", [region], [limit], gauge)
 
 
 def at_least(region, amount, *, gauge=None):
     """The saying that a region has at least this height."""
-    return _said("atleast", [region], [amount], gauge)
+    return saying_of("atleast", [region], [amount], gauge)
 
 
 def exactly(region, limit, *, gauge=None):
     """The saying that a region has this height."""
-    return _said("exactly", [region], [limit], gauge)
+    return saying_of("exactly", [region], [limit], gauge)
 
 
 def under(region, other, more, *, gauge=None):
     """The saying that a region is at most by so much higher than another one."""
-    return _said("under", [region, other], [more], gauge)
+    return saying_of("under", [region, other], [more], gauge)
 
 
 def level(region, other, more, *, gauge=None):
     """The saying that a region is by so much higher than another one."""
-    return _said("level", [region, other], [more], gauge)
+    return saying_of("level", [region, other], [more], gauge)
 
 
 def if_then(region, amount, other, least, *, gauge=None):
     """The saying that if a region has at least this amount, then another one has at least so much."""
-    return _said("ifthen", [region, other], [amount, least], gauge)
+    return saying_of("ifthen", [region, other], [amount, least], gauge)
 
 
 def squall_most(place, limit, *, gauge=None):

@@ -335,6 +335,22 @@ class File:
             self.fault(node, "L7 generator expression")
 
 
+def name_faults(package):
+    """The names of properties that are also those of methods or attributes, and of generators that are methods."""
+    methods, properties, generators = set(), set(), set()
+    for tree in package.trees.values():
+        for node in ast.walk(tree):
+            if isinstance(node, ast.ClassDef):
+                for part in node.body:
+                    words = [getattr(word, "id", "") for word in getattr(part, "decorator_list", [])]
+                    if isinstance(part, ast.FunctionDef):
+                        (properties if "property" in words else methods).add(part.name)
+            if isinstance(node, FUNCTIONS) and any(isinstance(part, (ast.Yield,
+                                                                     ast.YieldFrom)) for part in ast.walk(node)):
+                generators.add(node.name)
+    return sorted(properties & (methods | package.attributes) | methods & package.attributes | generators & METHODS)
+
+
 def cycle_faults(package):
     """The files that import each other, directly or not."""
     needs = {f"highestsky.{path.stem}": {node.module for node in tree.body if isinstance(node, ast.ImportFrom)

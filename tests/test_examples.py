@@ -3,6 +3,7 @@
 from highestsky.charts import Chart
 from highestsky.errors import InvalidChart, InvalidText
 from highestsky.losses import least_loss
+from highestsky.lots import Lot
 from highestsky.sayings import at_least, at_most, if_then, squall_most, under
 from highestsky.skies import Sky
 from tests.helpers import Case
@@ -34,7 +35,8 @@ class Examples(Case):
         self.same([sky.squalls(), sky.heights()], [
             [((0, 0, 0), 4), ((0, 0, 1), 7), ((1, 0, 0), 4)],
             {(0, 0, 0): 4, (0, 0, 1): 7, (1, 0, 0): 4, (1, 0, 1): 6}])
-        sayings = [at_most([(1, 0, 0)], 4), squall_most((1, 0, 1), 0), at_least([(1, 0, 1)], 6), at_least([(1, 0, 1)], 7)]
+        sayings = [at_most([(1, 0, 0)], 4), squall_most((1, 0, 1), 0), at_least([(1, 0, 1)], 6),
+                   at_least([(1, 0, 1)], 7)]
         self.same([saying.kept_by(sky) for saying in sayings], [True, True, True, False])
 
     def test_heights_that_are_skipped(self):
@@ -50,3 +52,29 @@ class Examples(Case):
         self.same(str(saying), "under -3 0.0.0 0.0.0")
         chart = Chart([[0]], top=5)
         self.same([saying.kept_by(Sky(chart, [((0, 0, 0), height)])) for height in range(6)], [False] * 6)
+
+    def test_the_highest_sky(self):
+        chart = Chart([[0, 1]], [(0, 5, 2, 5, 3)])
+        lot = Lot(chart, [at_most([(1, 0, 0)], 4), squall_most((1, 0, 1), 0)])
+        self.same([lot.sky.squalls(), lot.sky.heights(), lot.can_be], [
+            [((0, 0, 0), 4), ((0, 0, 1), 7), ((1, 0, 0), 4)],
+            {(0, 0, 0): 4, (0, 0, 1): 7, (1, 0, 0): 4, (1, 0, 1): 6}, True])
+
+    def test_floors_that_can_be_put_to_a_lot(self):
+        chart = Chart([[0, 1]], [(0, 5, 2, 5, 3)], top=9)
+        lot = Lot(chart, [at_most([(1, 0, 0)], 4)])
+        self.same([lot.sky.squall(place) for place in chart.places()], [4, 7, 4, 9])
+        lot.put(squall_most((1, 0, 1), 0))
+        found = [lot.with_sayings([at_least([(1, 0, 1)], amount)]).can_be for amount in [6, 7]]
+        self.same(found, [True, False])
+
+    def test_a_lot_that_cannot_be(self):
+        lot = Lot(Chart([[0, 1]], [(0, 5, 2, 5, 3)]))
+        lot.put(at_most([(1, 0, 0)], 4), squall_most((1, 0, 1), 0), at_least([(1, 0, 1)], 5), at_most([(0, 0, 1)], 5))
+        self.same([lot.can_be, lot.broken(), lot.sky.height((1, 0, 1))], [False, [2], 4])
+
+    def test_ceilings_without_a_sky(self):
+        cell = [(0, 0, 0)]
+        lot = Lot(Chart([[0]], top=5), [under(cell, cell, -3)])
+        self.same([lot.sky, lot.can_be, len(lot.lines()), lot.lines()[0][1], lot.text()],
+                  [None, False, 1, 2, "under -3 0.0.0 0.0.0\n"])

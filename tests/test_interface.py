@@ -5,7 +5,8 @@ import inspect
 import unittest
 
 FUNCTIONS = {
-    "words": ["is_name(value)", "is_cell(value)", "is_place(value)", "is_number(value, least, most)", "number_in(text)"],
+    "words": ["is_name(value)", "is_cell(value)", "is_place(value)", "is_number(value, least, most)",
+              "number_in(text)"],
     "winds": ["is_wind(value)", "moved_cell(cell, direction)"],
     "charttexts": ["chart_rows_text(rows, winds, top)", "read_parts(text)"],
     "losses": ["losses_from(chart, place)", "losses_to(chart, region)", "least_loss(chart, place, region)",
@@ -18,14 +19,22 @@ FUNCTIONS = {
                 "exactly(region, limit, *, gauge=None)", "under(region, other, more, *, gauge=None)",
                 "level(region, other, more, *, gauge=None)", "if_then(region, amount, other, least, *, gauge=None)",
                 "squall_most(place, limit, *, gauge=None)", "squall_least(place, amount, *, gauge=None)"],
+    "sayingtexts": ["read_saying(text)", "read_sayings(text)"],
+    "lowering": ["limit_at(sky, ceiling)", "is_broken(sky, ceiling)", "lowered(sky, ceiling, limit)",
+                 "is_forced(sky, ceiling, limit)"],
+    "logs": ["followed_log(lot, lines)", "log_walk(lot, lines)"],
+    "papers": ["is_paper(lot, value)", "short_paper(lot, paper)", "is_short(lot, paper)"],
+    "papertexts": ["paper_text(paper)", "read_paper(chart, text)"],
 }
 METHODS = {
     ("charts", "Chart"): [
         "__init__(self, rows, winds=(), *, top=9)", "rows(self)", "winds(self)", "cells(self)", "drag(self, cell)",
         "places(self)", "neighbours(self, cell)", "steps_from(self, place)", "steps_to(self, place)", "text(self)",
-        "read(text)", "__str__(self)", "__contains__(self, x)", "__eq__(self, other)", "__len__(self)", "__repr__(self)"],
+        "read(text)", "__str__(self)", "__contains__(self, x)", "__eq__(self, other)", "__len__(self)",
+        "__repr__(self)"],
     ("skies", "Sky"): [
-        "__init__(self, chart, squalls=())", "squall(self, place)", "height(self, place)", "region_height(self, region)",
+        "__init__(self, chart, squalls=())", "squall(self, place)", "height(self, place)",
+        "region_height(self, region)",
         "squalls(self)", "heights(self)", "with_squall(self, place, number)", "full(chart)", "is_below(self, other)",
         "__getitem__(self, at)", "__or__(self, other)", "__eq__(self, other)", "__len__(self)", "__bool__(self)",
         "__repr__(self)"],
@@ -35,8 +44,17 @@ METHODS = {
         "numbers(self)", "regions(self)", "parts(self)", "opposites(self)", "is_simple(self)", "is_ceiling(self)",
         "is_floor(self)", "is_plain(self)", "kept_by(self, sky)", "with_gauge(self, gauge)", "moved(self, chart, how)",
         "text(self)", "__str__(self)", "__eq__(self, other)", "__repr__(self)"],
+    ("lots", "Lot"): [
+        "__init__(self, chart, sayings=())", "sky(self)", "can_be(self)", "begun(self)", "put(self, *sayings)",
+        "take_back(self, at)", "sayings(self)", "parts(self)", "broken(self)", "keeps(self, sky)", "is_plain(self)",
+        "lines(self)", "paper(self)", "with_sayings(self, sayings)", "twin(self)", "text(self)", "read(chart, text)",
+        "__str__(self)", "__contains__(self, x)", "__eq__(self, other)", "__len__(self)", "__bool__(self)",
+        "__repr__(self)"],
 }
-STATIC = ["read(text)", "full(chart)"]
+STATIC = ["read(text)", "full(chart)", "read(chart, text)"]
+# The properties of the classes that have some; they are only read.
+PROPERTIES = {"Front": ["hour"], "Lot": ["sky", "can_be", "begun"]}
+GENERATORS = [("fronts", "front_walk"), ("logs", "log_walk")]
 
 
 def written(found):
@@ -64,8 +82,16 @@ class Interface(unittest.TestCase):
                     found = found.fget
                 self.assertEqual(written(getattr(found, "__func__", found)), text)
 
-    def test_only_hour_is_a_property(self):
+    def test_properties(self):
         for module, name in METHODS:
             kind = getattr(importlib.import_module(f"highestsky.{module}"), name)
             found = [word for word, part in vars(kind).items() if isinstance(part, property)]
-            self.assertEqual(found, ["hour"] if name == "Front" else [])
+            self.assertEqual(found, PROPERTIES.get(name, []))
+            self.assertEqual([word for word in found if vars(kind)[word].fset is not None], [])
+
+    def test_generators(self):
+        for module, wanted in FUNCTIONS.items():
+            home = importlib.import_module(f"highestsky.{module}")
+            for text in wanted:
+                name = text.split("(")[0]
+                self.assertEqual(inspect.isgeneratorfunction(getattr(home, name)), (module, name) in GENERATORS)

@@ -20,6 +20,9 @@ class Rules(unittest.TestCase):
             with self.subTest(path.name):
                 self.assertEqual(rules.File(package, path).check(), [])
 
+    def test_names_mean_one_thing(self):
+        self.assertEqual(rules.name_faults(rules.Package()), [])
+
     def test_no_cycles(self):
         self.assertEqual(rules.cycle_faults(rules.Package()), [])
 
