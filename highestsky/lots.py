@@ -1,6 +1,6 @@
 """Lots: sayings in an order, and the highest sky that is behind all of them."""
 
-from highestsky.errors import InvalidSaying, InvalidText, NoSky, OtherChart, TooMany, UnknownSaying
+from highestsky.errors import InvalidSaying, InvalidText, NoSky, NotPlain, OtherChart, TooMany, UnknownSaying
 from highestsky.lowering import Descent, Reaches
 from highestsky.sayings import Saying
 from highestsky.sayingtexts import read_saying
@@ -175,6 +175,13 @@ def check_can_be(lot):
     """Raises NoSky if a lot cannot be."""
     if not lot.can_be:
         raise NoSky(lot.paper())
+
+
+def check_plain(lot):
+    """Raises NotPlain with the index of the first saying of a lot that is not plain."""
+    for at, saying in enumerate(lot.sayings()):
+        if not saying.is_plain():
+            raise NotPlain(at)
 
 
 def _read_lines(chart, text):

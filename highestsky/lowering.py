@@ -44,6 +44,7 @@ class Bounds:
         self.chart = reaches.chart
         self._reaches = reaches
         self._squalls = list(squalls)
+        self._peaks = {}
 
     def squall(self, place):
         """The squall of a place."""
@@ -51,8 +52,17 @@ class Bounds:
 
     def region_height(self, region):
         """The height of a kept region."""
-        # Its own places have no loss, so that this is never below 0.
-        return max([self._squalls[index] - loss for index, loss in self._reaches.pairs_to(region)])
+        if region in self._peaks:
+            index, loss, height = self._peaks[region]
+            # As bounds only go down, the height stays while the squall that made it does.
+            if self._squalls[index] - loss == height:
+                return height
+        pairs = self._reaches.pairs_to(region)
+        # The places of the region have no loss, so that the greatest number is never below 0.
+        heights = [self._squalls[index] - loss for index, loss in pairs]
+        height = max(heights)
+        self._peaks[region] = (*pairs[heights.index(height)], height)
+        return height
 
     def lower_place(self, place, limit):
         """Lowers the squall of a place to a limit."""
@@ -75,6 +85,7 @@ class Bounds:
 
     def forget(self, ceiling, limit):
         """Lifts to the top the squalls that lowering by a ceiling to a limit leaves within these bounds."""
+        self._peaks = {}
         region = ceiling.regions()[0]
         pairs = self._reaches.pairs_to(region)
         if ceiling.kind == "squallmost":
@@ -93,7 +104,9 @@ class Bounds:
 
     def twin(self):
         """Independent bounds with the same squalls."""
-        return Bounds(self._reaches, self._squalls)
+        other = Bounds(self._reaches, self._squalls)
+        other._peaks = {region: self._peaks[region] for region in self._peaks}
+        return other
 
 
 def full_bounds(reaches):

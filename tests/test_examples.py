@@ -1,11 +1,15 @@
 """The examples at the end of the document, as far as they need what there is."""
 
+from highestsky.causes import choices, possible_causes
 from highestsky.charts import Chart
+from highestsky.cores import core
 from highestsky.errors import InvalidChart, InvalidText
+from highestsky.forecasts import height_span, possible_heights, skipped_heights
 from highestsky.losses import least_loss
 from highestsky.lots import Lot
 from highestsky.sayings import at_least, at_most, if_then, squall_most, under
 from highestsky.skies import Sky
+from highestsky.verdicts import verdict
 from tests.helpers import Case
 
 
@@ -71,10 +75,24 @@ class Examples(Case):
     def test_a_lot_that_cannot_be(self):
         lot = Lot(Chart([[0, 1]], [(0, 5, 2, 5, 3)]))
         lot.put(at_most([(1, 0, 0)], 4), squall_most((1, 0, 1), 0), at_least([(1, 0, 1)], 5), at_most([(0, 0, 1)], 5))
-        self.same([lot.can_be, lot.broken(), lot.sky.height((1, 0, 1))], [False, [2], 4])
+        self.same([lot.can_be, core(lot), lot.broken(), lot.sky.height((1, 0, 1))], [False, [0, 1, 2, 3], [2], 4])
 
     def test_ceilings_without_a_sky(self):
         cell = [(0, 0, 0)]
         lot = Lot(Chart([[0]], top=5), [under(cell, cell, -3)])
         self.same([lot.sky, lot.can_be, len(lot.lines()), lot.lines()[0][1], lot.text()],
                   [None, False, 1, 2, "under -3 0.0.0 0.0.0\n"])
+
+    def test_verdicts_causes_and_choices(self):
+        chart = Chart([[0, 1]], [(0, 5, 2, 5, 3)])
+        lot = Lot(chart, [at_most([(1, 0, 0)], 4), squall_most((1, 0, 1), 0), at_least([(1, 0, 1)], 5)])
+        first = [verdict(lot, at_least([(0, 0, 1)], 6)), verdict(lot, at_most([(1, 0, 0)], 2)),
+                 verdict(lot, at_most([(1, 0, 0)], 3))]
+        self.same([first, possible_causes(lot, [(1, 0, 1)], 5), height_span(lot, [(1, 0, 0)]),
+                   choices(lot, [(1, 0, 0)])],
+                  [["sure", "never", "open"], [(0, 0, 1)], (3, 4), [(2, 3, (0, 0, 1))]])
+
+    def test_skipped_heights(self):
+        cell = [(0, 0, 0)]
+        lot = Lot(Chart([[0]], top=5), [if_then(cell, 1, cell, 3)])
+        self.same([possible_heights(lot, cell), skipped_heights(lot, cell)], [[0, 3, 4, 5], [1, 2]])

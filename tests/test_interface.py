@@ -25,6 +25,17 @@ FUNCTIONS = {
     "logs": ["followed_log(lot, lines)", "log_walk(lot, lines)"],
     "papers": ["is_paper(lot, value)", "short_paper(lot, paper)", "is_short(lot, paper)"],
     "papertexts": ["paper_text(paper)", "read_paper(chart, text)"],
+    "verdicts": ["verdict(lot, saying)", "kept_and_broken(lot, saying)", "can_be_with(lot, *sayings)",
+                 "escape(lot, *sayings)", "one_is_sure(lot, *sayings)"],
+    "certificates": ["certificate(lot, saying)", "is_certificate(lot, saying, value)"],
+    "cores": ["core(lot)", "is_core(lot, value)", "needless(lot)", "least_lot(lot)", "is_stronger(lot, other)",
+              "are_alike(lot, other)", "parting_sky(lot, other)"],
+    "forecasts": ["greatest_height(lot, region)", "least_height(lot, region)", "height_span(lot, region)",
+                  "possible_heights(lot, region)", "skipped_heights(lot, region)", "sky_for(lot, region, number)",
+                  "forecast_rows(lot, hour)"],
+    "causes": ["is_cause(sky, place, region, amount)", "possible_causes(lot, region, amount)",
+               "sure_causes(lot, region, amount)", "surely_among(lot, region, amount, places)", "choices(lot, region)",
+               "least_by_choices(lot, region)"],
 }
 METHODS = {
     ("charts", "Chart"): [
@@ -54,7 +65,7 @@ METHODS = {
 STATIC = ["read(text)", "full(chart)", "read(chart, text)"]
 # The properties of the classes that have some; they are only read.
 PROPERTIES = {"Front": ["hour"], "Lot": ["sky", "can_be", "begun"]}
-GENERATORS = [("fronts", "front_walk"), ("logs", "log_walk")]
+GENERATORS = [("fronts", "front_walk"), ("logs", "log_walk"), ("forecasts", "forecast_rows")]
 
 
 def written(found):

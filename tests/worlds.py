@@ -28,7 +28,7 @@ class World:
             self.squalls = [{**squalls, place: number} for squalls in self.squalls for number in range(chart.top + 1)]
         self.heights = [self.heights_of(squalls) for squalls in self.squalls]
         self.all = range(len(self.squalls))
-        self._skies = {}
+        self._skies, self._kept = {}, {}
 
     def heights_of(self, squalls):
         found = {}
@@ -66,7 +66,10 @@ class World:
         """The indexes of the skies that keep all sayings of a list."""
         found = list(self.all)
         for saying in sayings:
-            found = [at for at in found if self.keeps(at, saying)]
+            text = saying.text()
+            if text not in self._kept:
+                self._kept[text] = {at for at in self.all if self.keeps(at, saying)}
+            found = [at for at in found if at in self._kept[text]]
         return found
 
     def highest_of(self, sayings):
