@@ -104,6 +104,4 @@ def _check_charts(lot, other):
 
 def _apart(lot, other):
     """A lot that can be, whose skies are all skies of a lot and none of another lot; None if there is no such sky."""
-    if not lot.can_be:
-        return None
     return first_that_can_be(lot, [opposite for saying in other.sayings() for opposite in saying.opposites()])

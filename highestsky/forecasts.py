@@ -4,7 +4,7 @@ from highestsky.errors import InvalidNumber
 from highestsky.lots import check_can_be
 from highestsky.regions import check_region
 from highestsky.sayings import at_most, exactly
-from highestsky.words import MOST_TOLL, is_number
+from highestsky.words import is_number
 
 
 def greatest_height(lot, region):
@@ -56,8 +56,7 @@ def skipped_heights(lot, region):
 def sky_for(lot, region, number):
     """The highest sky of a lot in which a region has just this height, or None."""
     _check_forecast(lot, region)
-    if not is_number(number, 0, MOST_TOLL):
-        raise InvalidNumber(number)
+    # The saying itself refuses what is no number from 0 to 99.
     lower = lot.with_sayings([exactly(region, number)])
     return lower.sky if lower.can_be else None
 
@@ -66,7 +65,6 @@ def forecast_rows(lot, hour):
     """A string for each cell of water: its row, its column, its least and its greatest height at an hour."""
     if not is_number(hour, 0, lot.chart.last):
         raise InvalidNumber(hour)
-    check_can_be(lot)
     # All rows are worked out first, as the lot may be another one when the next row is asked for.
     for row in [_forecast_row(lot, (hour, *cell)) for cell in lot.chart.cells()]:
         yield row

@@ -53,13 +53,13 @@ class Bounds:
     def region_height(self, region):
         """The height of a kept region."""
         if region in self._peaks:
-            index, loss, height = self._peaks[region]
+            peak, loss, known = self._peaks[region]
             # As bounds only go down, the height stays while the squall that made it does.
-            if self._squalls[index] - loss == height:
-                return height
+            if self._squalls[peak] - loss == known:
+                return known
         pairs = self._reaches.pairs_to(region)
         # The places of the region have no loss, so that the greatest number is never below 0.
-        heights = [self._squalls[index] - loss for index, loss in pairs]
+        heights = [self._squalls[index] - less for index, less in pairs]
         height = max(heights)
         self._peaks[region] = (*pairs[heights.index(height)], height)
         return height

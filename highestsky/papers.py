@@ -3,7 +3,6 @@
 from highestsky.errors import InvalidPaper
 from highestsky.logs import lowered_by_line
 from highestsky.lowering import limit_at
-from highestsky.sayings import Saying
 from highestsky.skies import Sky
 
 
@@ -25,7 +24,7 @@ def is_grounds(lot, value):
         return False
     _, lines, end = value
     parts = lot.parts()
-    if not isinstance(lines, (list, tuple)) or not isinstance(end, Saying) or end not in parts:
+    if not isinstance(lines, (list, tuple)) or end not in parts:
         return False
     bounds = lot.beginning()
     # The bounds are lowered line by line, up to the first one that is not forced.

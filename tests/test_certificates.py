@@ -134,7 +134,8 @@ class Bent(CertificateCase):
                    ("never", ((paper[0], (), paper[2]),)),
                    ("never", (list(paper),)), ("never", (paper[:2],)), ("never", ((paper[0], paper[1], LOW),)),
                    ("never", None),
-                   ("never", (None,)), ("never", (paper,), 0))
+                   ("never", (None,)), ("never", (paper,), 0), ("Never", (paper,)), ("none", (paper,)), ("", (paper,)),
+                   (None, (paper,)), (True, (paper,)), ((), (paper,)), (saying, (paper,)))
         # The paper is one for the lot with just this saying put to it.
         self.wrong(lot, at_most(C, 3), ("never", (paper,)))
         self.wrong(Lot(CHART, [LOW, CALM]), saying, ("never", (paper,)))

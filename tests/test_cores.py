@@ -93,6 +93,11 @@ class Cores(LotCase):
                 if value not in ([0], (0,)):
                     self.same(self.told(is_core, lot, value), False)
 
+    def test_indexes_below_zero(self):
+        lot = Lot(CHART, [LOW, CALM, FIVE, at_most(B, 5)])
+        self.same([is_core(lot, value) for value in [[0, 1, 2, 3], [-1, 0, 1, 2], [-4, -3, -2, -1], [-2, -1, 0, 1]]],
+                  [True, False, False, False])
+
     def test_one_saying(self):
         for lot in [Lot(CHART, [at_least(A, 10)]), Lot(CHART, [under(A, A, -1)]), Lot(CHART, [level(B, B, 5)])]:
             self.same([core(lot), is_core(lot, [0]), is_core(lot, (0,)), is_core(lot, []), is_core(lot, [False])],
