@@ -66,11 +66,11 @@ def choices(lot, region):
 
 def _choice(sky, floor, losses):
     """The least pair (share, place) of the carriers of a floor."""
-    carried = [(place, need) for place, need in _needs(sky.chart, floor) if sky.squall(place) >= need]
+    carried = [(place, need) for place, need in needs_of(sky.chart, floor) if sky.squall(place) >= need]
     return min([(_share(need, losses.get(place)), place) for place, need in carried])
 
 
-def _needs(chart, floor):
+def needs_of(chart, floor):
     """The list of the pairs (place, need) of the places that can carry a floor."""
     region = floor.regions()[0]
     amount = floor.numbers()[0]

@@ -41,7 +41,7 @@ class Chart:
 
     def drag(self, cell):
         """The drag of a cell of water."""
-        self._check_water(cell)
+        self.check_water(cell)
         return self._drags[cell]
 
     def places(self):
@@ -50,7 +50,7 @@ class Chart:
 
     def neighbours(self, cell):
         """The ascending list of the cells of water beside a cell of water."""
-        self._check_water(cell)
+        self.check_water(cell)
         around = [moved_cell(cell, direction) for direction in DIRECTIONS if direction != "stay"]
         return sorted([other for other in around if other in self._drags])
 
@@ -85,7 +85,8 @@ class Chart:
         if place not in self:
             raise UnknownPlace(place)
 
-    def _check_water(self, cell):
+    def check_water(self, cell):
+        """Raises OnLand for any value that is no cell of water of the chart."""
         if not is_cell(cell) or cell not in self._drags:
             raise OnLand(cell)
 

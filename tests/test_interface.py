@@ -36,6 +36,17 @@ FUNCTIONS = {
     "causes": ["is_cause(sky, place, region, amount)", "possible_causes(lot, region, amount)",
                "sure_causes(lot, region, amount)", "surely_among(lot, region, amount, places)", "choices(lot, region)",
                "least_by_choices(lot, region)"],
+    "thinning": ["is_thin(lot, sky)", "thinned(lot, sky)"],
+    "stations": ["check_stations(chart, stations)", "settles(lot, station, saying)",
+                 "open_readings(lot, station, saying)", "is_silent(lot, station)",
+                 "best_station(lot, stations, saying)"],
+    "plans": ["find_plan(lot, stations, saying, *, most=2)", "is_plan(lot, stations, saying, value)",
+              "plan_depth(plan)", "followed_plan(plan, stations, sky)"],
+    "trips": ["check_way(chart, way)", "is_way(trip, value)", "ways(trip)", "many_ways(trip)"],
+    "promises": ["roughness(sky, way, *, by='greatest')", "calmest(lot, trip, *, by='greatest')",
+                 "earliest(lot, trip, bar)", "surely_calm(lot, way, bar)", "possibly_calm(lot, way, bar)",
+                 "ship_log(sky, way, *, gauge=None)"],
+    "barriers": ["barrier(lot, trip, bar)", "is_barrier(lot, trip, bar, value)"],
 }
 METHODS = {
     ("charts", "Chart"): [
@@ -61,11 +72,17 @@ METHODS = {
         "lines(self)", "paper(self)", "with_sayings(self, sayings)", "twin(self)", "text(self)", "read(chart, text)",
         "__str__(self)", "__contains__(self, x)", "__eq__(self, other)", "__len__(self)", "__bool__(self)",
         "__repr__(self)"],
+    ("trips", "Trip"): [
+        "__init__(self, chart, start, goal, *, first=0, last=None)", "next_places(self, place)",
+        "may_be(self, place)"],
+    ("trips", "GuardedTrip"): [
+        "__init__(self, chart, start, goal, forbidden, *, first=0, last=None)", "forbidden(self)",
+        "next_places(self, place)", "may_be(self, place)"],
 }
 STATIC = ["read(text)", "full(chart)", "read(chart, text)"]
 # The properties of the classes that have some; they are only read.
 PROPERTIES = {"Front": ["hour"], "Lot": ["sky", "can_be", "begun"]}
-GENERATORS = [("fronts", "front_walk"), ("logs", "log_walk"), ("forecasts", "forecast_rows")]
+GENERATORS = [("fronts", "front_walk"), ("logs", "log_walk"), ("forecasts", "forecast_rows"), ("trips", "ways")]
 
 
 def written(found):

@@ -28,6 +28,7 @@ class World:
             self.squalls = [{**squalls, place: number} for squalls in self.squalls for number in range(chart.top + 1)]
         self.heights = [self.heights_of(squalls) for squalls in self.squalls]
         self.all = range(len(self.squalls))
+        self._indexes = {tuple(squalls.values()): at for at, squalls in enumerate(self.squalls)}
         self._skies, self._kept = {}, {}
 
     def heights_of(self, squalls):
@@ -44,7 +45,7 @@ class World:
 
     def index_of(self, sky):
         """The index of a sky of the chart."""
-        return self.squalls.index({place: sky.squall(place) for place in self.places})
+        return self._indexes[tuple(sky.squall(place) for place in self.places)]
 
     def height(self, at, region):
         return max(self.heights[at][place] for place in region)
