@@ -119,6 +119,14 @@ class Lot:
         other._append(sayings)
         return other
 
+    def anew(self, sayings):
+        """A new lot of the chart with just these sayings, all of them right, without the bound of Lot.MOST."""
+        other = Lot(self.chart)
+        # What has been worked out of the chart is not worked out again.
+        other._descent = self._descent.fresh()
+        other._append(sayings)
+        return other
+
     def twin(self):
         """An independent lot in the same state."""
         other = Lot(self.chart)

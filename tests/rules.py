@@ -342,9 +342,10 @@ def name_faults(package):
         for node in ast.walk(tree):
             if isinstance(node, ast.ClassDef):
                 for part in node.body:
-                    words = [getattr(word, "id", "") for word in getattr(part, "decorator_list", [])]
+                    words = [getattr(word, "id", getattr(word, "attr", ""))
+                             for word in getattr(part, "decorator_list", [])]
                     if isinstance(part, ast.FunctionDef):
-                        (properties if "property" in words else methods).add(part.name)
+                        (properties if {"property", "setter"} & set(words) else methods).add(part.name)
             if isinstance(node, FUNCTIONS) and any(isinstance(part, (ast.Yield,
                                                                      ast.YieldFrom)) for part in ast.walk(node)):
                 generators.add(node.name)

@@ -1,14 +1,18 @@
-"""The examples at the end of the document, as far as they need what there is."""
+"""The examples at the end of the document."""
 
 from highestsky.causes import choices, possible_causes
 from highestsky.charts import Chart
 from highestsky.cores import core
+from highestsky.doubts import Doubt
 from highestsky.errors import InvalidChart, InvalidText
 from highestsky.forecasts import height_span, possible_heights, skipped_heights
+from highestsky.hedges import blind_promise, informed_promise, seeing_promise
 from highestsky.losses import least_loss
 from highestsky.lots import Lot
+from highestsky.office import Office
 from highestsky.sayings import at_least, at_most, if_then, squall_most, under
 from highestsky.skies import Sky
+from highestsky.trips import Trip
 from highestsky.verdicts import verdict
 from tests.helpers import Case
 
@@ -96,3 +100,20 @@ class Examples(Case):
         cell = [(0, 0, 0)]
         lot = Lot(Chart([[0]], top=5), [if_then(cell, 1, cell, 3)])
         self.same([possible_heights(lot, cell), skipped_heights(lot, cell)], [[0, 3, 4, 5], [1, 2]])
+
+    def test_hedges(self):
+        chart = Chart([[9, 9]], [(0, 0, 0, 0, 0), (0, 0, 0, 0, 0)], top=9)
+        lot = Lot(chart, [at_most([(0, 0, 0), (0, 0, 1), (2, 0, 0), (2, 0, 1)], 0), at_most([(1, 0, 0)], 0, gauge="a"),
+                          at_most([(1, 0, 1)], 0, gauge="b")])
+        doubt = Doubt(lot)
+        trip = Trip(chart, (0, 0), (0, 0))
+        self.same([doubt.cases(), blind_promise(doubt, trip)[0], seeing_promise(doubt, trip),
+                   informed_promise(doubt, trip, 0), informed_promise(doubt, trip, 1), informed_promise(doubt, trip, 2)],
+                  [[("a",), ("b",)], 9, 0, 0, 9, 9])
+
+    def test_an_office(self):
+        office = Office(Chart([[0, 1]], [(0, 5, 2, 5, 3)]))
+        done = office.do(("report", at_most([(1, 0, 0)], 4)), ("report", squall_most((1, 0, 1), 0)),
+                         ("watch", at_most([(1, 0, 1)], 6)), ("hour",), ("publish",))
+        self.same([done, office.say("ask atleast 7 1.0.1"), office.bulletins(), office.history()],
+                  [None, "never", [(1, ("sure",), (((0, 0), 4), ((0, 1), 6)))], (1, 0)])

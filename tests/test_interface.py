@@ -47,6 +47,10 @@ FUNCTIONS = {
                  "earliest(lot, trip, bar)", "surely_calm(lot, way, bar)", "possibly_calm(lot, way, bar)",
                  "ship_log(sky, way, *, gauge=None)"],
     "barriers": ["barrier(lot, trip, bar)", "is_barrier(lot, trip, bar, value)"],
+    "gauges": ["gauges(lot)", "without_gauges(lot, names)", "fewest_false(lot)"],
+    "hedges": ["blind_promise(doubt, trip)", "seeing_promise(doubt, trip)", "informed_promise(doubt, trip, hour)",
+               "worth_of_seeing(doubt, trip)"],
+    "officetexts": ["write_office(office)", "read_office(text)"],
 }
 METHODS = {
     ("charts", "Chart"): [
@@ -78,10 +82,25 @@ METHODS = {
     ("trips", "GuardedTrip"): [
         "__init__(self, chart, start, goal, forbidden, *, first=0, last=None)", "forbidden(self)",
         "next_places(self, place)", "may_be(self, place)"],
+    ("voyages", "Voyage"): [
+        "__init__(self, lot, trip, *, by='greatest')", "promise(self)", "position(self)", "way(self)", "done(self)",
+        "lot(self)", "hear(self, *sayings)", "sail(self, *sayings)", "twin(self)", "__repr__(self)"],
+    ("doubts", "Doubt"): [
+        "__init__(self, lot, *, allowed=1)", "allowed(self)", "can_be(self)", "change(self, allowed)", "lot(self)",
+        "cases(self)", "case_lot(self, names)", "case_sky(self, names)", "put(self, *sayings)", "take_back(self, at)",
+        "verdict(self, saying)", "height_span(self, region)", "worst_heights(self)", "surely_false(self, gauge)",
+        "twin(self)", "__len__(self)", "__bool__(self)", "__repr__(self)"],
+    ("office", "Office"): [
+        "__init__(self, chart)", "do(self, *deeds)", "undo(self)", "redo(self)", "history(self)", "open_draft(self)",
+        "keep_draft(self)", "give_up(self)", "depth(self)", "busy(self)", "tried(self, *deeds)", "now(self)",
+        "lot(self)", "standing(self)", "watched(self)", "verdicts(self)", "bulletins(self)", "known_lot(self, hour)",
+        "journal(self)", "text(self)", "say(self, line)", "__call__(self, line)", "log(self)", "twin(self)",
+        "__eq__(self, other)", "__len__(self)", "__bool__(self)", "__repr__(self)"],
 }
 STATIC = ["read(text)", "full(chart)", "read(chart, text)"]
-# The properties of the classes that have some; they are only read.
-PROPERTIES = {"Front": ["hour"], "Lot": ["sky", "can_be", "begun"]}
+# The properties of the classes that have some; all but one are only read.
+PROPERTIES = {"Front": ["hour"], "Lot": ["sky", "can_be", "begun"], "Voyage": ["promise", "position"],
+              "Doubt": ["allowed", "can_be"], "Office": ["depth", "busy", "now"]}
 GENERATORS = [("fronts", "front_walk"), ("logs", "log_walk"), ("forecasts", "forecast_rows"), ("trips", "ways")]
 
 
@@ -115,7 +134,14 @@ class Interface(unittest.TestCase):
             kind = getattr(importlib.import_module(f"highestsky.{module}"), name)
             found = [word for word, part in vars(kind).items() if isinstance(part, property)]
             self.assertEqual(found, PROPERTIES.get(name, []))
-            self.assertEqual([word for word in found if vars(kind)[word].fset is not None], [])
+            assigned = [word for word in found if vars(kind)[word].fset is not None]
+            self.assertEqual(assigned, ["allowed"] if name == "Doubt" else [])
+
+    def test_bases(self):
+        bases = {name: getattr(importlib.import_module(f"highestsky.{module}"), name).__bases__ for module, name in METHODS}
+        trip = importlib.import_module("highestsky.trips").Trip
+        self.assertEqual(bases.pop("GuardedTrip"), (trip,))
+        self.assertEqual(set(bases.values()), {(object,)})
 
     def test_generators(self):
         for module, wanted in FUNCTIONS.items():
