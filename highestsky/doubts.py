@@ -107,8 +107,7 @@ class Doubt:
         check_known(self._lot, gauge)
         self._check_can_be()
         said = [saying for saying in self._lot.sayings() if saying.gauge == gauge]
-        # Each sky of a case without this gauge would keep them.
-        return all([gauge in names and not lot.with_sayings(said).can_be for names, lot in self._lots.items()])
+        return not any([lot.with_sayings(said).can_be for lot in self._lots.values()])
 
     def _check_can_be(self):
         if not self.can_be:

@@ -29,7 +29,7 @@ def informed_promise(doubt, trip, hour):
         raise InvalidNumber(hour)
     if start_of(trip) not in leads:
         return None
-    reached = _reached(leads, doubt.worst_heights(), start_of(trip), hour)
+    reached = _reached(leads, doubt.worst_heights(), start_of(trip))
     told = [place for place in reached if place[0] == hour]
     rests = _rests(doubt, leads)
     return min([max([reached[place], *[rest[place] for rest in rests]]) for place in told])
@@ -55,12 +55,12 @@ def _rests(doubt, leads):
     return [least_rests(leads, doubt.case_sky(names).heights(), BY) for names in doubt.cases()]
 
 
-def _reached(leads, heights, start, hour):
-    """A dict from the places up to an hour to the least roughness of a way from the start to there."""
+def _reached(leads, heights, start):
+    """A dict from the places on ways from a start to the least roughness of a way from the start to there."""
     reached = {start: heights[start]}
     # The places ascend by hours, so all ways to a place are known when its turn comes.
     for place in sorted(leads):
-        if place in reached and place[0] < hour:
+        if place in reached:
             for other in leads[place]:
                 number = max(reached[place], heights[other])
                 reached[other] = min(number, reached.get(other, number))

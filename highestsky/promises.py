@@ -3,7 +3,7 @@
 from highestsky.errors import InvalidNumber, OtherChart
 from highestsky.lots import check_can_be
 from highestsky.routes import best_way, check_measure, roughness_of
-from highestsky.sayings import at_most, check_gauge, exactly
+from highestsky.sayings import at_most, exactly
 from highestsky.trips import check_way, leads_of, start_of
 from highestsky.words import MOST_TOLL, is_number
 
@@ -86,5 +86,5 @@ def _check_calm(lot, way, bar):
 def ship_log(sky, way, *, gauge=None):
     """The list of the sayings of the heights that a ship meets on a way in a sky."""
     check_way(sky.chart, way)
-    check_gauge(gauge)
+    # The sayings themselves refuse what is no gauge.
     return [exactly([place], sky.height(place), gauge=gauge) for place in way]

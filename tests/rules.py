@@ -159,7 +159,8 @@ class File:
         if isinstance(node, ast.ImportFrom) and node not in self.tree.body:
             self.fault(node, "L2 import within")
         for kind in [ast.FunctionDef, ast.ClassDef, ast.Name, ast.arg, ast.Attribute, ast.Constant, ast.Call,
-                     ast.Compare, ast.Raise, ast.ExceptHandler, ast.GeneratorExp, ast.Set, ast.SetComp, ast.AnnAssign]:
+                     ast.Compare, ast.Raise, ast.ExceptHandler, ast.GeneratorExp, ast.Set, ast.SetComp, ast.AnnAssign,
+                     ast.Try]:
             if isinstance(node, kind):
                 getattr(self, "check_" + kind.__name__.lower())(node)
 
@@ -284,6 +285,37 @@ class File:
                 self.fault(node, f"L23 {node.func.attr} is kept")
         if word in ("set", "frozenset"):
             self.check_set(node)
+        if word == "super":
+            self.check_super(node)
+        if isinstance(node.func, ast.Attribute) and getattr(node.func.value, "id", "") in self.classes | self.imported:
+            self.check_off_class(node)
+
+    def check_super(self, node):
+        """`super()` stands directly in the rows of a method, and calls a method or, in __init__, __init__."""
+        method = self.parents.get(self.parents[node])
+        called = isinstance(self.parents[node], ast.Attribute) and isinstance(method, ast.Call)
+        within = method
+        while within is not None and not isinstance(within, (*FUNCTIONS, ast.Lambda, ast.ListComp, ast.DictComp)):
+            within = self.parents.get(within)
+        plainly = isinstance(within, FUNCTIONS) and isinstance(self.parents[within], ast.ClassDef)
+        if node.args or not called or not plainly or within.decorator_list:
+            self.fault(node, "L5 super")
+        elif self.parents[node].attr.startswith("__") and not within.name == self.parents[node].attr == "__init__":
+            self.fault(node, "L5 super of a double-underscore method")
+
+    def check_off_class(self, node):
+        """Only static methods are called off a class, so that a name may be a method here and an attribute there."""
+        static = {part.name for tree in self.package.trees.values() for kind in tree.body
+                  if isinstance(kind, ast.ClassDef) for part in kind.body if isinstance(part, ast.FunctionDef)
+                  and [getattr(word, "id", "") for word in part.decorator_list] == ["staticmethod"]}
+        if node.func.attr not in static:
+            self.fault(node, "L18 method off a class")
+
+    def check_try(self, node):
+        for part in node.finalbody:
+            kept = isinstance(part, ast.Assign) and isinstance(part.value, (ast.Constant, ast.Name, ast.Attribute))
+            if not kept or not all(isinstance(target, (ast.Name, ast.Attribute)) for target in part.targets):
+                self.fault(part, "L6 finally")
 
     def is_iterated(self, node):
         within = self.parents[node]

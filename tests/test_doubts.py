@@ -71,7 +71,8 @@ class AllCases(DoubtCase):
         without = {at for many in range(allowed + 1) for chosen in combinations(names, many)
                    for at in world.skies_of(left(sayings, chosen))}
         self.same(skies, sorted(without))
-        self.same(doubt.worst_heights(), {place: max(world.heights[at][place] for at in skies) for place in world.places})
+        self.same(doubt.worst_heights(),
+                  {place: max(world.heights[at][place] for at in skies) for place in world.places})
         for _ in range(2):
             region = world.region(maker)
             heights = [world.height(at, region) for at in skies]

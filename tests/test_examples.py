@@ -108,7 +108,8 @@ class Examples(Case):
         doubt = Doubt(lot)
         trip = Trip(chart, (0, 0), (0, 0))
         self.same([doubt.cases(), blind_promise(doubt, trip)[0], seeing_promise(doubt, trip),
-                   informed_promise(doubt, trip, 0), informed_promise(doubt, trip, 1), informed_promise(doubt, trip, 2)],
+                   informed_promise(doubt, trip, 0), informed_promise(doubt, trip, 1),
+                   informed_promise(doubt, trip, 2)],
                   [[("a",), ("b",)], 9, 0, 0, 9, 9])
 
     def test_an_office(self):

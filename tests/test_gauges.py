@@ -55,7 +55,8 @@ class Gauges(LotCase):
 
     def test_more_than_sixty(self):
         lot = Lot(CHART).with_sayings([*crowd(8), *[LOW] * 60, FIVE.with_gauge("z")])
-        self.same([len(without_gauges(lot, ["z"])), len(without_gauges(lot, gauges(lot))), len(gauges(lot))], [68, 60, 9])
+        self.same([len(without_gauges(lot, ["z"])), len(without_gauges(lot, gauges(lot))), len(gauges(lot))],
+                  [68, 60, 9])
 
     def test_unknown(self):
         lot = Lot(CHART, [LOW.with_gauge("a"), LOW, CALM.with_gauge("b")])

@@ -54,7 +54,8 @@ class AllWays(DoubtCase):
         self.same([type(blind), len(blind), blind[0], type(blind[1])], [tuple, 2, wanted, list])
         self.same([blind[1] in journey.ways, worst(heights, blind[1])], [True, wanted])
         seeing = max(min(worst([case], way) for way in journey.ways) for case in heights)
-        self.same([seeing_promise(doubt, journey.trip), worth_of_seeing(doubt, journey.trip)], [seeing, wanted - seeing])
+        self.same([seeing_promise(doubt, journey.trip), worth_of_seeing(doubt, journey.trip)],
+                  [seeing, wanted - seeing])
         told = [informed_promise(doubt, journey.trip, hour) for hour in range(journey.first, journey.last + 1)]
         self.same(told, [informed(heights, journey.ways, at) for at in range(len(told))])
         # From seeing to blind it never falls.
@@ -126,7 +127,8 @@ class Examples(LotCase):
     def test_the_largest_chart(self):
         chart = largest_chart()
         maker = random.Random(234)
-        lot = Lot(chart, [at_most(maker.sample(chart.places(), 5), maker.randint(10, 60), gauge=maker.choice("abcdefgh"))
+        lot = Lot(chart, [at_most(maker.sample(chart.places(), 5), maker.randint(10, 60),
+                                  gauge=maker.choice("abcdefgh"))
                           for _ in range(60)])
         doubt, trip = Doubt(lot, allowed=2), Trip(chart, (0, 2), (3, 4))
         told = [informed_promise(doubt, trip, hour) for hour in range(9)]

@@ -138,7 +138,8 @@ class Interface(unittest.TestCase):
             self.assertEqual(assigned, ["allowed"] if name == "Doubt" else [])
 
     def test_bases(self):
-        bases = {name: getattr(importlib.import_module(f"highestsky.{module}"), name).__bases__ for module, name in METHODS}
+        bases = {name: getattr(importlib.import_module(f"highestsky.{module}"), name).__bases__ for module,
+                 name in METHODS}
         trip = importlib.import_module("highestsky.trips").Trip
         self.assertEqual(bases.pop("GuardedTrip"), (trip,))
         self.assertEqual(set(bases.values()), {(object,)})

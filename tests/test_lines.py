@@ -14,12 +14,17 @@ from tests.test_verdicts import CHART, B, CALM, D, FIVE, LOW
 LOG = 12
 
 UNKNOWN = [
-    "", " ", "  ", "x", "Now", "NOW", "now ", " now", "now now", "now 0", "reports 0", "reports ", "ask", "ask ", "span",
-    "span ", "watch 0", "watch atmost 4 1.0.0", "watch ", "bulletins 0", "bulletin", "bulletin ", "undo 1", "redo 1", "undo ",
-    "ask  atmost 4 1.0.0", "ask atmost 4 1.0.0 ", " ask atmost 4 1.0.0", "ask atmost  4 1.0.0", "span 0.0.0 ", "span  0.0.0",
+    "", " ", "  ", "x", "Now", "NOW", "now ", " now", "now now", "now 0", "reports 0", "reports ", "ask", "ask ",
+    "span",
+    "span ", "watch 0", "watch atmost 4 1.0.0", "watch ", "bulletins 0", "bulletin", "bulletin ", "undo 1", "redo 1",
+    "undo ",
+    "ask  atmost 4 1.0.0", "ask atmost 4 1.0.0 ", " ask atmost 4 1.0.0", "ask atmost  4 1.0.0", "span 0.0.0 ",
+    "span  0.0.0",
     "now\n", "\nnow", "\n", "ask atmost 4 1.0.0\n", "ask atmost\n4 1.0.0", "ask\natmost 4 1.0.0", "span 0.0.0\n",
-    "bulletin 0\n", "bulletin  0", "bulletin 0 ", "undo\n", "redo\n", "undo\nundo", "report atmost 4 1.0.0", "hour", "publish",
-    "withdraw 0", "drop 0", "error", "unknown", "done", "none", "text", "log", "history", "verdicts", "standing", "busy",
+    "bulletin 0\n", "bulletin  0", "bulletin 0 ", "undo\n", "redo\n", "undo\nundo", "report atmost 4 1.0.0", "hour",
+    "publish",
+    "withdraw 0", "drop 0", "error", "unknown", "done", "none", "text", "log", "history", "verdicts", "standing",
+    "busy",
     "ask atmost 4\n1.0.0", "asks atmost 4 1.0.0", "reports none",
 ]
 
@@ -34,8 +39,10 @@ class Answers(OfficeCase):
         self.same(after[:LOG] + after[LOG + 1:], before[:LOG] + before[LOG + 1:])
 
     def test_a_new_office(self):
-        for line, wanted in [("now", "0"), ("reports", "none"), ("watch", "none"), ("bulletins", "0"), ("span 0.0.0", "0 9"),
-                             ("ask atmost 9 0.0.0", "sure"), ("ask atmost 8 0.0.0", "open"), ("ask atleast 10 0.0.0", "never"),
+        for line, wanted in [("now", "0"), ("reports", "none"), ("watch", "none"), ("bulletins", "0"),
+                             ("span 0.0.0", "0 9"),
+                             ("ask atmost 9 0.0.0", "sure"), ("ask atmost 8 0.0.0", "open"),
+                             ("ask atleast 10 0.0.0", "never"),
                              ("bulletin 0", "error UnknownBulletin"), ("undo", "error NothingLeft"),
                              ("redo", "error NothingLeft")]:
             self.answers(Office(CHART), line, wanted)
@@ -52,13 +59,17 @@ class Answers(OfficeCase):
 
     def test_sayings(self):
         office = worked()
-        for saying in [LOW, CALM, FIVE, at_most(D, 6), at_least(B, 7), level(B, D, 1), squall_most(B[0], 9), at_least(B, 10)]:
+        for saying in [LOW, CALM, FIVE, at_most(D, 6), at_least(B, 7), level(B, D, 1), squall_most(B[0], 9),
+                       at_least(B, 10)]:
             for other in [saying, saying.with_gauge("buoy")]:
                 self.answers(office, "ask " + str(other), verdict(office.lot(), saying))
-        for text in ["x", "0", "atmost", "atmost 4", "atmost 4 1.0.0 1", "atmost 04 1.0.0", "atmost 100 1.0.0", "ask atmost 4 1.0.0",
-                     "by A atmost 4 1.0.0", "atmost 4 1.0.0+0.0.0", "atmost 4 1.0.6", "atmost 4 9.0.0", "none", "atmost -1 0.0.0"]:
+        for text in ["x", "0", "atmost", "atmost 4", "atmost 4 1.0.0 1", "atmost 04 1.0.0", "atmost 100 1.0.0",
+                     "ask atmost 4 1.0.0",
+                     "by A atmost 4 1.0.0", "atmost 4 1.0.0+0.0.0", "atmost 4 1.0.6", "atmost 4 9.0.0", "none",
+                     "atmost -1 0.0.0"]:
             self.answers(office, "ask " + text, "error InvalidSaying")
-        for text in ["atmost 4 4.0.0", "atmost 4 0.0.2", "by a under 1 0.0.0 0.1.0", "squallleast 1 8.5.5", "atleast 10 5.0.0"]:
+        for text in ["atmost 4 4.0.0", "atmost 4 0.0.2", "by a under 1 0.0.0 0.1.0", "squallleast 1 8.5.5",
+                     "atleast 10 5.0.0"]:
             self.answers(office, "ask " + text, "error OffChart")
 
     def test_regions(self):
@@ -66,13 +77,15 @@ class Answers(OfficeCase):
         for text, region in [("0.0.0", [(0, 0, 0)]), ("1.0.1", D), ("0.0.0+3.0.1", [(0, 0, 0), (3, 0, 1)])]:
             least, greatest = height_span(office.lot(), region)
             self.answers(office, "span " + text, f"{least} {greatest}")
-        for text in ["x", "0", "0.0", "0.0.0.0", "0.0.0+", "0.0.0+0.0.0", "1.0.0+0.0.0", "00.0.0", "0.0.0 1.0.0", "span 0.0.0",
+        for text in ["x", "0", "0.0", "0.0.0.0", "0.0.0+", "0.0.0+0.0.0", "1.0.0+0.0.0", "00.0.0", "0.0.0 1.0.0",
+                     "span 0.0.0",
                      "4.0.0", "0.0.2", "0.1.0", "0.0.0+4.0.0", "9.0.0", "(0, 0, 0)", "-1.0.0"]:
             self.answers(office, "span " + text, "error InvalidRegion")
 
     def test_bulletins(self):
         office = worked()
-        for text in ["3", "4", "-1", "00", "01", "+1", "x", "0 0", "0.", "1234567890", "999999999", "bulletin 0", "None", "0-"]:
+        for text in ["3", "4", "-1", "00", "01", "+1", "x", "0 0", "0.", "1234567890", "999999999", "bulletin 0",
+                     "None", "0-"]:
             self.answers(office, "bulletin " + text, "error UnknownBulletin")
 
     def test_no_form(self):
@@ -81,7 +94,8 @@ class Answers(OfficeCase):
                 self.answers(office, line, "unknown")
 
     def test_codes(self):
-        found = {Office(CHART).say(line) for line in ["ask x", "ask atmost 4 2.0.0", "span x", "bulletin 0", "undo", "redo"]}
+        found = {Office(CHART).say(line) for line in ["ask x", "ask atmost 4 2.0.0", "span x", "bulletin 0", "undo",
+                                                      "redo"]}
         self.same(sorted(found), ["error InvalidRegion", "error InvalidSaying", "error NothingLeft", "error OffChart",
                                   "error UnknownBulletin"])
         self.same(Office(Chart([[0]])).say("span 0.0.1"), "error InvalidRegion")

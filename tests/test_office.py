@@ -1,6 +1,7 @@
 """The office: its deeds with all of their errors, and what it tells behind them."""
 
 import random
+from unittest import mock
 
 from highestsky.charts import Chart
 from highestsky.errors import (
@@ -10,6 +11,7 @@ from highestsky.lots import Lot
 from highestsky.office import Office
 from highestsky.sayings import at_least, at_most, exactly, if_then, level, squall_least, squall_most, under
 from highestsky.skies import Sky
+from highestsky.states import state_behind
 from tests.helpers import CALM_WIND, any_values
 from tests.offices import Model, OfficeCase, Picture, shown
 from tests.test_verdicts import CHART, A, B, C, CALM, D, FIVE, LOW, OFF
@@ -18,10 +20,13 @@ from tests.worlds import WORLDS, state
 LONG = Chart([[0, 1]], [(0, 5, 2, 5, 3), CALM_WIND, (1, 0, 1, 0, 0)])
 
 # What has not the form of a deed.
-NO_DEEDS = [*any_values(), "hour", ["hour"], ("Hour",), ("",), ("hour", 1), ("hour", None), ("publish", ()), ("report",),
+NO_DEEDS = [*any_values(), "hour", ["hour"], ("Hour",), ("",), ("hour", 1), ("hour", None), ("publish", ()),
+            ("report",),
             ("report", LOW, 1), ("watch",), ("watch", LOW, LOW), ("withdraw",), ("withdraw", 0, 0),
-            ("drop",), ("drop", 0, 0), (("hour",),), (["hour"],), (None,), (LOW,), (LOW, "report"), ["report", LOW], LOW,
-            (True,), ("undo",), ("redo",), ("do",), ("hour ",), {"hour": 1}, ({"hour": 1},), Lot(CHART), (Sky(CHART), LOW)]
+            ("drop",), ("drop", 0, 0), (("hour",),), (["hour"],), (None,), (LOW,), (LOW, "report"), ["report", LOW],
+            LOW,
+            (True,), ("undo",), ("redo",), ("do",), ("hour ",), {"hour": 1}, ({"hour": 1},), Lot(CHART),
+            (Sky(CHART), LOW)]
 
 
 def worked():
@@ -88,7 +93,8 @@ class Deeds(OfficeCase):
         self.same(office.bulletins(), before)
         office.do(("publish",))
         self.same([office.bulletins()[:1], len(office.bulletins())], [before, 2])
-        self.same([type(office.bulletins()[1]), type(office.bulletins()[1][1]), type(office.bulletins()[1][2])], [tuple] * 3)
+        self.same([type(office.bulletins()[1]), type(office.bulletins()[1][1]), type(office.bulletins()[1][2])],
+                  [tuple] * 3)
 
     def test_known_lots_of_earlier_hours_stay(self):
         office = Office(LONG)
@@ -98,7 +104,8 @@ class Deeds(OfficeCase):
                   [True, True])
         office.do(("hour",), ("withdraw", 1), ("report", at_most(A, 0)), ("hour",), ("report", LOW))
         self.same([state(office.known_lot(hour)) for hour in range(2)], known)
-        self.same([office.known_lot(2) == Lot(LONG, [at_most(A, 0)]), office.known_lot(3) == office.lot()], [True, True])
+        self.same([office.known_lot(2) == Lot(LONG, [at_most(A, 0)]), office.known_lot(3) == office.lot()],
+                  [True, True])
         for hour in [-1, 4, 5, *[value for value in any_values() if type(value) is not int], "0", [0]]:
             self.refused_office(InvalidNumber(hour), office, office.known_lot, hour)
         self.refused(InvalidNumber(1), Office(LONG).known_lot, 1)
@@ -134,7 +141,8 @@ class Errors(OfficeCase):
             for value in [*any_values(), LOW.text(), [LOW], (LOW,), office]:
                 self.refused_office(InvalidSaying(0), office, office.do, ("report", value))
             self.refused_office(OffChart((4, 0, 0)), office, office.do, ("report", level(A, [(5, 0, 0), (4, 0, 0)], 1)))
-            self.refused_office(OffChart((0, 1, 0)), office, office.do, ("report", if_then([(0, 1, 0)], 1, [(8, 0, 0)], 1)))
+            self.refused_office(OffChart((0, 1, 0)), office, office.do,
+                                ("report", if_then([(0, 1, 0)], 1, [(8, 0, 0)], 1)))
             self.same(self.impossible(office, office.do, ("report", at_least(A, 10))), [])
             self.same(self.impossible(office, office.tried, ("report", under(A, A, -1))), [])
 
@@ -188,7 +196,8 @@ class Errors(OfficeCase):
                 self.refused_office(InvalidSaying(0), office, office.do, ("watch", value))
             self.refused_office(OffChart((4, 0, 0)), office, office.do, ("watch", level(A, [(5, 0, 0), (4, 0, 0)], 1)))
             many = len(office.watched())
-            for value in [-1, many, many + 1, *[value for value in any_values() if type(value) is not int], "0", [0], LOW]:
+            for value in [-1, many, many + 1, *[value for value in any_values() if type(value) is not int], "0", [0],
+                          LOW]:
                 self.refused_office(UnknownWatch(value), office, office.do, ("drop", value))
 
     def test_twelve_and_thirteen_watches(self):
@@ -230,7 +239,8 @@ class Errors(OfficeCase):
 
     def test_one_wrong_deed_among_several(self):
         wrong = [(("report", None), InvalidSaying(0)), (("report", OFF), OffChart((2, 0, 0))),
-                 (("withdraw", 9), UnknownReport(9)), (("watch", OFF), OffChart((2, 0, 0))), (("drop", 9), UnknownWatch(9))]
+                 (("withdraw", 9), UnknownReport(9)), (("watch", OFF), OffChart((2, 0, 0))),
+                 (("drop", 9), UnknownWatch(9))]
         right = [("report", LOW), ("watch", CALM), ("publish",), ("hour",), ("withdraw", 0), ("drop", 0)]
         for deed, error in wrong:
             for at in range(len(right) + 1):
@@ -243,6 +253,39 @@ class Errors(OfficeCase):
         office = Office(CHART)
         self.refused_office(Ended(), office, office.do, *right, ("hour",), ("report", None))
         self.same(self.impossible(office, office.do, *right, ("report", LOW), ("report", at_least(A, 5))), [1])
+
+
+class Busy(OfficeCase):
+    """Whether deeds are being done, asked while they are, and behind each call."""
+
+    def watched(self, office, seen, wrong=None):
+        def behind(present, deeds):
+            seen.append([office.busy, office.history()])
+            if wrong is not None:
+                raise wrong
+            return state_behind(present, deeds)
+        return mock.patch("highestsky.office.state_behind", behind)
+
+    def test_busy(self):
+        office, seen = worked(), []
+        with self.watched(office, seen):
+            for call in [office.do, office.tried]:
+                call(("publish",))
+                self.same(office.busy, False)
+                self.refused_office(InvalidDeed(0), office, call, None)
+                self.refused_office(UnknownReport(9), office, call, ("publish",), ("withdraw", 9))
+        self.same(seen, [[True, (4, 0)]] + [[True, (5, 0)]] * 5)
+
+    def test_any_error(self):
+        for wrong in [ValueError("x"), ZeroDivisionError("x"), RecursionError("x"), KeyError("x")]:
+            office, seen = worked(), []
+            before = shown(office)
+            with self.watched(office, seen, wrong):
+                for call in [office.do, office.tried]:
+                    with self.assertRaises(type(wrong)):
+                        call(("publish",))
+                    self.same(office.busy, False)
+            self.same([shown(office), len(seen)], [before, 2])
 
 
 class Tried(OfficeCase):
@@ -273,7 +316,8 @@ class Tried(OfficeCase):
 
 class Comparing(OfficeCase):
     def test_equal(self):
-        self.same([worked() == worked(), worked() != worked(), Office(CHART) == Office(Chart(CHART.rows(), CHART.winds()))],
+        self.same([worked() == worked(), worked() != worked(),
+                   Office(CHART) == Office(Chart(CHART.rows(), CHART.winds()))],
                   [True, False, True])
         office = worked()
         office.open_draft()
@@ -284,7 +328,8 @@ class Comparing(OfficeCase):
         office.do(("watch", LOW), ("report", CALM))
         other.do(("report", CALM))
         other.do(("watch", CALM), ("drop", 0), ("watch", LOW))
-        self.same([office == other, office.text() == other.text(), office.journal() == other.journal()], [True, False, False])
+        self.same([office == other, office.text() == other.text(), office.journal() == other.journal()],
+                  [True, False, False])
 
     def test_unequal(self):
         for deed in [("hour",), ("publish",), ("report", LOW), ("watch", LOW), ("withdraw", 0), ("drop", 0)]:

@@ -16,7 +16,8 @@ from tests.worlds import WORLDS, state
 
 HEAD = CHART.text()
 # Each line is right behind those ahead of it.
-LINES = ["report atmost 4 1.0.0", "report by buoy squallmost 0 1.0.1", "watch under -1 0.0.0 0.0.1+1.0.0", "publish", "hour",
+LINES = ["report atmost 4 1.0.0", "report by buoy squallmost 0 1.0.1", "watch under -1 0.0.0 0.0.1+1.0.0", "publish",
+         "hour",
          "report atleast 5 1.0.1", "withdraw 1", "watch ifthen 1 0.0.0 2 1.0.0", "drop 0", "publish", "withdraw 0"]
 
 
@@ -147,7 +148,8 @@ class Refused(Case):
                  "report atmost 04 1.0.0", "report atmost 100 1.0.0", "report by A atmost 4 1.0.0", "watch", "watch ",
                  "watch 0", "watch atmost 4 1.0.0+0.0.0", "withdraw", "withdraw ", "withdraw -1", "withdraw 00",
                  "withdraw 01", "withdraw +1", "withdraw 0 ", "withdraw 0 0", "withdraw 1234567890", "withdraw a",
-                 "drop", "drop ", "drop -1", "drop 00", "drop 0 0", "drop 1234567890", "end ", "End", "undo", "redo", "now",
+                 "drop", "drop ", "drop -1", "drop 00", "drop 0 0", "drop 1234567890", "end ", "End", "undo", "redo",
+                 "now",
                  "report report atmost 4 1.0.0", "chart 9", "row 0 1", "squall 1 0.0.0", "do hour"]
         for line in wrong:
             for ahead in range(len(LINES) + 1):
@@ -156,7 +158,8 @@ class Refused(Case):
                 self.refuses(joined(LINES[:ahead] + [line, "drop 9", "x"], ""), ahead, "form")
 
     def test_refused(self):
-        wrong = ["report atmost 4 2.0.0", "report atmost 4 0.0.2", "report atleast 10 0.0.0", "withdraw 9", "withdraw 999999999",
+        wrong = ["report atmost 4 2.0.0", "report atmost 4 0.0.2", "report atleast 10 0.0.0", "withdraw 9",
+                 "withdraw 999999999",
                  "drop 9", "drop 999999999", "watch atmost 4 2.0.0", "report under -1 0.0.0 0.0.0"]
         for line in wrong:
             for ahead in range(len(LINES) + 1):
@@ -227,7 +230,8 @@ class Refused(Case):
         maker = random.Random(252)
         for _ in range(400):
             at = maker.randrange(len(text))
-            other = text[:at] + maker.choice(["", " ", "0", "1", "-", ".", "e", "\n", "x"]) + text[at + maker.randint(0, 1):]
+            other = text[:at] + maker.choice(["", " ", "0", "1", "-", ".", "e", "\n",
+                                              "x"]) + text[at + maker.randint(0, 1):]
             try:
                 read = read_office(other)
             except InvalidText as wrong:

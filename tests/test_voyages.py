@@ -206,6 +206,18 @@ class Examples(VoyageCase):
         voyage.hear(at_most([(1, 0, 1)], 1))
         self.same([whole(twin), voyage.promise], [before, 3])
 
+    def test_twins_of_what_would_be_chosen_otherwise_now(self):
+        lot, trip = self.water()
+        for place, other in [((1, 0, 0), (1, 0, 1)), ((1, 0, 1), (1, 0, 0))]:
+            for by, promise in [("greatest", 5), ("sum", 7)]:
+                voyage = Voyage(lot, trip, by=by)
+                voyage.sail(at_most([place], 5))
+                voyage.hear(at_most([other], 0))
+                for twin in [voyage.twin(), voyage.twin().twin()]:
+                    self.same([whole(twin), twin.promise, twin.position], [whole(voyage), promise, place])
+                    twin.sail()
+                    self.same([twin.done(), twin.promise, voyage.position], [voyage.way(), promise, place])
+
     def test_sixty_and_more_sayings(self):
         voyage = Voyage(Lot(CHART, example().sayings() * 19), Trip(CHART, (0, 0), (0, 1)))
         self.refused_voyage(TooMany(60), voyage, voyage.hear, *[LOW] * 4)
@@ -259,4 +271,5 @@ class Errors(VoyageCase):
             self.refused_voyage(Ended(), voyage, voyage.sail, *sayings)
         self.refused_voyage(InvalidSaying(0), voyage, voyage.hear, None)
         voyage.hear(at_most(A, 1))
-        self.same([voyage.position, voyage.promise, Journey(CHART, (0, 0), (0, 1), 0, 1).ways], [D[0], 5, [voyage.way()]])
+        self.same([voyage.position, voyage.promise, Journey(CHART, (0, 0), (0, 1), 0, 1).ways],
+                  [D[0], 5, [voyage.way()]])

@@ -73,7 +73,8 @@ class Mirrors(Case):
                     self.same(many_ways(trip), len(journey.ways))
                     for by in ["greatest", "sum"]:
                         told = [calmest(lot, journey.trip, by=by), calmest(moved, trip, by=by)]
-                        self.same([found and found[0] for found in told[:1]], [found and found[0] for found in told[1:]])
+                        self.same([found and found[0] for found in told[:1]],
+                                  [found and found[0] for found in told[1:]])
                     found = barrier(lot, journey.trip, 1)
                     if found is not None:
                         self.same(is_barrier(moved, trip, 1, sorted(moved_region(world.chart, found, how))), True)
@@ -134,7 +135,8 @@ class Alike(Case):
                 journey = random_journey(maker, world.chart)
                 stations = [world.region(maker) for _ in range(3)]
                 for other in self.others(world, sayings, maker):
-                    self.same([are_alike(lot, other), parting_sky(lot, other), is_stronger(other, lot)], [True, None, True])
+                    self.same([are_alike(lot, other), parting_sky(lot, other), is_stronger(other, lot)],
+                              [True, None, True])
                     self.same(self.answers(lot, region, saying, bar, journey, stations),
                               self.answers(other, region, saying, bar, journey, stations))
 
@@ -189,10 +191,12 @@ class OneLot(Case):
             saying, region = world.saying(maker), world.region(maker)
             office.do(("watch", saying))
             word = verdict(lot, saying)
-            self.same([office.verdicts(), office.say("ask " + str(saying)), doubt.verdict(saying)], [[word], word, word])
+            self.same([office.verdicts(), office.say("ask " + str(saying)), doubt.verdict(saying)],
+                      [[word], word, word])
             text = "+".join(".".join(str(number) for number in place) for place in sorted(set(region)))
             least, greatest = height_span(lot, region)
-            self.same([office.say("span " + text), doubt.height_span(region)], [f"{least} {greatest}", (least, greatest)])
+            self.same([office.say("span " + text), doubt.height_span(region)],
+                      [f"{least} {greatest}", (least, greatest)])
             journey = random_journey(maker, world.chart)
             if journey.ways:
                 voyage = Voyage(lot, journey.trip)
@@ -212,7 +216,8 @@ class TextsAlone(Case):
         voyage.hear(read_saying("atmost 3 1.0.0"))
         self.same([voyage.promise, voyage.way()[1]], [3, (1, 0, 0)])
         self.same(read_paper(chart, paper_text(lot.paper()))[1] == lot.sky, True)
-        office = read_office(chart.text() + "".join(f"report {line}\n" for line in lot.text().split("\n")[:-1]) + "end\n")
+        reports = "".join(f"report {line}\n" for line in lot.text().split("\n")[:-1])
+        office = read_office(chart.text() + reports + "end\n")
         self.same([calmest(office.lot(), trip)[0], office("span 1.0.1"), office("ask by buoy atmost 5 1.0.1")],
                   [5, "0 5", "sure"])
 
@@ -234,7 +239,8 @@ class ByName(Case):
         self.same([sky_for(lot=lot, region=C, number=3) is None, is_cause(sky=lot.sky, place=B[0], region=D, amount=6),
                    surely_among(lot=lot, region=D, amount=5, places=B), choices(lot=lot, region=C)],
                   [False, True, True, [(2, 3, B[0])]])
-        self.same([least_by_choices(lot=lot, region=C), is_thin(lot=lot, sky=lot.sky), thinned(lot=lot, sky=lot.sky).squalls()],
+        self.same([least_by_choices(lot=lot, region=C), is_thin(lot=lot, sky=lot.sky),
+                   thinned(lot=lot, sky=lot.sky).squalls()],
                   [3, False, [(B[0], 6)]])
 
     def test_of_readings(self):
@@ -249,7 +255,8 @@ class ByName(Case):
     def test_of_trips(self):
         lot, trip = example(), Trip(chart=CHART, start=(0, 0), goal=(0, 1), first=0, last=1)
         way = [A[0], D[0]]
-        self.same([check_way(chart=CHART, way=way), is_way(trip=trip, value=way), list(ways(trip=trip)), many_ways(trip=trip)],
+        self.same([check_way(chart=CHART, way=way), is_way(trip=trip, value=way), list(ways(trip=trip)),
+                   many_ways(trip=trip)],
                   [None, True, [way], 1])
         self.same([roughness(sky=lot.sky, way=way, by="sum"), calmest(lot=lot, trip=trip, by="sum"),
                    earliest(lot=lot, trip=trip, bar=6), surely_calm(lot=lot, way=way, bar=6), possibly_calm(
@@ -261,7 +268,8 @@ class ByName(Case):
 
     def test_of_doubts_and_offices(self):
         lot = Lot(CHART, [LOW.with_gauge("a"), CALM])
-        self.same([gauges(lot=lot), len(without_gauges(lot=lot, names=["a"])), fewest_false(lot=lot)], [["a"], 1, (0, [()])])
+        self.same([gauges(lot=lot), len(without_gauges(lot=lot, names=["a"])), fewest_false(lot=lot)],
+                  [["a"], 1, (0, [()])])
         doubt, trip = Doubt(lot=lot, allowed=1), Trip(CHART, (0, 0), (0, 0))
         doubt.change(allowed=1)
         self.same([len(doubt.case_lot(names=("a",))), doubt.case_sky(names=("a",)).squall(place=A[0]), doubt.verdict(
@@ -275,7 +283,8 @@ class ByName(Case):
     def test_of_sayings(self):
         self.same([str(saying) for saying in [
             at_most(region=A, limit=1, gauge="a"), at_least(region=A, amount=1, gauge=None), exactly(region=A, limit=0),
-            under(region=A, other=B, more=-1), level(region=A, other=B, more=1), if_then(region=A, amount=1, other=B, least=2),
+            under(region=A, other=B, more=-1), level(region=A, other=B, more=1), if_then(region=A, amount=1, other=B,
+                                                                                         least=2),
             squall_most(place=A[0], limit=1), squall_least(place=A[0], amount=1)]],
             ["by a atmost 1 0.0.0", "atleast 1 0.0.0", "exactly 0 0.0.0", "under -1 0.0.0 0.0.1", "level 1 0.0.0 0.0.1",
              "ifthen 1 0.0.0 2 0.0.1", "squallmost 1 0.0.0", "squallleast 1 0.0.0"])
