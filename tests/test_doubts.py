@@ -15,7 +15,7 @@ from highestsky.skies import Sky
 from highestsky.verdicts import verdict
 from tests.helpers import NO_REGIONS, any_values, wrong_places
 from tests.test_gauges import NAMES, crowd, gauges_of, left
-from tests.test_verdicts import CHART, A, B, C, CALM, D, FIVE, LOW, OFF, LotCase, example, verdict_of
+from tests.test_verdicts import CHART, A, C, CALM, D, FIVE, LOW, OFF, LotCase, example, verdict_of
 from tests.worlds import WORLDS, cases, state
 
 NO_ALLOWED = [-1, 3, 4, 10 ** 6, *[value for value in any_values() if type(value) is not int], "1", [1], (1,)]
